@@ -1,0 +1,68 @@
+"""The names, arguments and places of definition that the document's interface lists."""
+
+import importlib
+import inspect
+import unittest
+
+from usescale.errors import UsescaleError
+from usescale.scales import Scale
+
+SCALE_METHODS = {
+    "places": "(self)", "sum_at": "(self, first, second)", "product_at": "(self, first, second)",
+    "within_at": "(self, first, second)", "bound_at": "(self, first, second)", "name_at": "(self, place)",
+    "at_name": "(self, name)", "times_at": "(self, count)", "turns_at": "(self, start, extra, factor)",
+}
+
+CLASSES = {
+    "usescale.scales": {
+        "Scale": SCALE_METHODS,
+        "TableScale": {"__init__": "(self, names, within, sums, products, *, zero, one)"},
+    },
+    "usescale.families": {
+        "CutScale": {"__init__": "(self, start, *, period=1, order='same')"},
+        "LevelScale": {"__init__": "(self, count)"},
+        "SubsetScale": {"__init__": "(self, count)"},
+        "SpanScale": {"__init__": "(self, start)"},
+        "RelationScale": {"__init__": "(self, count)"},
+        "PairScale": {"__init__": "(self, left, right)"},
+        "TurnedScale": {"__init__": "(self, inner)"},
+    },
+}
+
+FUNCTIONS = {}
+
+
+class InterfaceTest(unittest.TestCase):
+    def test_classes_stand_in_their_files_and_methods_in_their_classes(self):
+        for module, classes in CLASSES.items():
+            for name, methods in classes.items():
+                found = getattr(importlib.import_module(module), name)
+                self.assertEqual(found.__module__, module)
+                for method, signature in methods.items():
+                    with self.subTest(name=name, method=method):
+                        self.assertIn(method, vars(found))
+                        if signature is not None:
+                            self.assertEqual(str(inspect.signature(getattr(found, method))), signature)
+
+    def test_functions_stand_in_their_files(self):
+        for module, functions in FUNCTIONS.items():
+            for name, signature in functions.items():
+                found = getattr(importlib.import_module(module), name)
+                self.assertEqual((found.__module__, str(inspect.signature(found))), (module, signature))
+
+    def test_methods_of_all_scales_take_the_same_arguments(self):
+        for module, classes in CLASSES.items():
+            for name in classes:
+                found = getattr(importlib.import_module(module), name)
+                if not issubclass(found, Scale):
+                    continue
+                for method, signature in SCALE_METHODS.items():
+                    self.assertEqual(str(inspect.signature(getattr(found, method))), signature)
+
+    def test_errors_stand_in_their_file(self):
+        for found in UsescaleError.__subclasses__():
+            self.assertEqual(found.__module__, "usescale.errors")
+
+
+if __name__ == "__main__":
+    unittest.main()

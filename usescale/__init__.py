@@ -1,0 +1,1 @@
+"""Usescale: programs that are checked for how much they use of what they are given, on any scale."""
