@@ -1,5 +1,6 @@
 """Scales to test with, and the words of the document worked out in the plainest way."""
 
+import itertools
 import random
 
 from usescale.families import (CutScale, LevelScale, PairScale, RelationScale, SpanScale, SubsetScale,
@@ -106,3 +107,41 @@ def nested(make, inner, times):
     for _ in range(times):
         inner = make(inner)
     return inner
+
+
+def plain_rules(scale):
+    """The rules of point 3 in their order: the word, how many grades it speaks of, and whether it holds."""
+    add, times, within, places = scale.sum_at, scale.product_at, scale.within_at, scale.places()
+    zero, one = scale.zero_at, scale.one_at
+
+    def bounded(a, b):
+        return any(within(a, u) and within(b, u) for u in places)
+
+    return [
+        ("same", 1, lambda a: within(a, a)),
+        ("both", 2, lambda a, b: a == b if within(a, b) and within(b, a) else True),
+        ("chain", 3, lambda a, b, c: within(a, c) if within(a, b) and within(b, c) else True),
+        ("sum-swap", 2, lambda a, b: add(a, b) == add(b, a)),
+        ("sum-group", 3, lambda a, b, c: add(add(a, b), c) == add(a, add(b, c))),
+        ("sum-zero", 1, lambda a: add(a, zero) == a),
+        ("product-group", 3, lambda a, b, c: times(times(a, b), c) == times(a, times(b, c))),
+        ("product-one", 1, lambda a: times(one, a) == a == times(a, one)),
+        ("product-zero", 1, lambda a: times(zero, a) == zero == times(a, zero)),
+        ("spread-left", 3, lambda a, b, c: times(a, add(b, c)) == add(times(a, b), times(a, c))),
+        ("spread-right", 3, lambda a, b, c: times(add(a, b), c) == add(times(a, c), times(b, c))),
+        ("sum-within", 3, lambda a, b, c: within(add(a, c), add(b, c)) if within(a, b) else True),
+        ("left-within", 3, lambda a, b, c: within(times(a, c), times(b, c)) if within(a, b) else True),
+        ("right-within", 3, lambda a, b, c: within(times(c, a), times(c, b)) if within(a, b) else True),
+        ("bound", 2, lambda a, b: plain_bound(scale, a, b) is not None if bounded(a, b) else True),
+    ]
+
+
+def plain_faults(scale):
+    """The first break of each rule that does not hold, in the words of point 3."""
+    found = []
+    for word, many, holds in plain_rules(scale):
+        for grades in itertools.product(scale.places(), repeat=many):
+            if not holds(*grades):
+                found.append((word, tuple(scale.name_at(grade) for grade in grades)))
+                break
+    return found

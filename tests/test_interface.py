@@ -5,6 +5,7 @@ import inspect
 import unittest
 
 from usescale.errors import UsescaleError
+from usescale.grades import Grade
 from usescale.scales import Scale
 
 SCALE_METHODS = {
@@ -27,9 +28,24 @@ CLASSES = {
         "PairScale": {"__init__": "(self, left, right)"},
         "TurnedScale": {"__init__": "(self, inner)"},
     },
+    "usescale.tallies": {
+        "ExactTally": {"__init__": "(self)"}, "MostTally": {"__init__": "(self)"}, "LeastTally": {"__init__": "(self)"},
+    },
+    "usescale.grades": {
+        "Grade": {
+            "__init__": "(self, scale, place)", "__add__": "(self, other)", "__mul__": "(self, other)",
+            "__or__": "(self, other)", "__le__": "(self, other)", "__lt__": "(self, other)", "__eq__": "(self, other)",
+            "__rmul__": "(self, other)", "__pow__": "(self, other)", "__str__": "(self)", "power": "(self, count)",
+            "fits": "(self, count)", "room": "(self, count)", "named": "(scale, name)", "zero": "(scale)",
+            "one": "(scale)", "idle": None,
+        },
+    },
 }
 
-FUNCTIONS = {}
+FUNCTIONS = {
+    "usescale.faults": {"first_fault": "(scale)"},
+    "usescale.labels": {"read_scale": "(text)"},
+}
 
 
 class InterfaceTest(unittest.TestCase):
@@ -58,6 +74,11 @@ class InterfaceTest(unittest.TestCase):
                     continue
                 for method, signature in SCALE_METHODS.items():
                     self.assertEqual(str(inspect.signature(getattr(found, method))), signature)
+
+    def test_class_methods_and_properties(self):
+        for name in ("named", "zero", "one"):
+            self.assertIsInstance(vars(Grade)[name], classmethod)
+        self.assertIsInstance(vars(Grade)["idle"], property)
 
     def test_errors_stand_in_their_file(self):
         for found in UsescaleError.__subclasses__():

@@ -7,8 +7,8 @@ import unittest
 
 PACKAGE = pathlib.Path(__file__).resolve().parent.parent / "usescale"
 
-BUILTINS = set("""len range enumerate zip min max sum abs sorted reversed int str bool bytes list tuple dict set isinstance
-ord repr any all divmod Exception ValueError TypeError KeyError IndexError LookupError ZeroDivisionError
+BUILTINS = set("""len range enumerate zip min max sum abs sorted reversed int str bool bytes list tuple dict set
+isinstance ord repr any all divmod Exception ValueError TypeError KeyError IndexError LookupError ZeroDivisionError
 NotImplementedError NotImplemented""".split())
 
 METHODS = set("""append clear copy count endswith extend find get index insert isalnum isalpha isdigit islower isspace
@@ -112,7 +112,7 @@ class LanguageTest(unittest.TestCase):
                 local |= {node.id for node in ast.walk(holder)
                           if isinstance(node, ast.Name) and isinstance(node.ctx, ast.Store)}
                 self.assertFalse(local & (bound | BUILTINS | BARRED_NAMES), (path, holder.name))
-                for node in ast.walk(holder):
+                for node in [part for row in holder.body for part in ast.walk(row)]:
                     if isinstance(node, ast.Name) and isinstance(node.ctx, ast.Load):
                         self.assertIn(node.id, local | bound | BUILTINS, (path, node.lineno))
 

@@ -28,14 +28,15 @@ class PairScaleTest(unittest.TestCase):
         self.assertEqual(len(scale.places()), 6)
 
     def test_half_by_half(self):
-        left, right = RelationScale(2), CutScale(1, order="down")
-        scale = PairScale(left, right)
-        places = scale.places()
-        for a in places[::3]:
-            for b in places[::2]:
-                self.assertEqual(scale.sum_at(a, b), (left.sum_at(a[0], b[0]), right.sum_at(a[1], b[1])))
-                self.assertEqual(scale.product_at(a, b), (left.product_at(a[0], b[0]), right.product_at(a[1], b[1])))
-                self.assertIs(scale.within_at(a, b), left.within_at(a[0], b[0]) and right.within_at(a[1], b[1]))
+        relations, cut = RelationScale(2), CutScale(1, order="down")
+        for left, right in ((relations, cut), (cut, relations)):
+            scale = PairScale(left, right)
+            for a in scale.places():
+                for b in scale.places():
+                    sums = (left.sum_at(a[0], b[0]), right.sum_at(a[1], b[1]))
+                    products = (left.product_at(a[0], b[0]), right.product_at(a[1], b[1]))
+                    self.assertEqual((scale.sum_at(a, b), scale.product_at(a, b)), (sums, products))
+                    self.assertIs(scale.within_at(a, b), left.within_at(a[0], b[0]) and right.within_at(a[1], b[1]))
 
     def test_both_halves_must_lie_within(self):
         scale = PairScale(CutScale(1, order="up"), CutScale(1, order="up"))
@@ -69,8 +70,9 @@ class PairScaleTest(unittest.TestCase):
         deep = PairScale(flat, LevelScale(2))
         wrong = {
             flat: ["", "0", "0/0", "<0/0", "0/0>", "<0 /0>", "<0/ 0>", "< 0/0>", "<0/0> ", "<0,0>", "<00>", "<0/1>",
-                   "<2/0>", "<0/0/0>", "<00/0>", "<+0/0>", "<0/>", "</0>", "<>", "</>", "<", ">", "/", "<0//0>", "<<0/0>>",
-                   "<many/0>", "(0/0)", "<0/0>0", "0<0/0>", "(0, 0)"],
+                   "<2/0>", "<0/0/0>", "<00/0>", "<+0/0>", "<0/>", "</0>", "<>", "</>", "<", ">", "/", "<0//0>",
+                   "<<0/0>>", "<0/0)", "<0/0<", "<0/00", "(0/0>", "00/0>", "/0/0>", "<many/0>", "(0/0)", "<0/0>0",
+                   "0<0/0>", "(0, 0)"],
             deep: ["<0/0>", "<<0/0>/0", "<<0/0/0>", "<0/<0/0>>", "<<0/0>/0>>", "<<0/0>/<0/0>>", "<<0/0>0>",
                    "<<0>/0/0>", "<0/0>/0>", "<><0/0>/0>", "<" * 5000, "<" * 5000 + "0/0" + ">" * 5000],
         }

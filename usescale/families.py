@@ -190,6 +190,12 @@ class PairScale(Scale):
     def times_at(self, count):
         return (self.left.times_at(count), self.right.times_at(count))
 
+    def power_at(self, place, count):
+        return (self.left.power_at(place[0], count), self.right.power_at(place[1], count))
+
+    def tails_at(self, place):
+        return self.left.tails_at(place[0]) + self.right.tails_at(place[1])
+
     def turns_at(self, start, extra, factor):
         return both_halves(self.left.turns_at(start[0], extra[0], factor[0]),
                            self.right.turns_at(start[1], extra[1], factor[1]))
@@ -224,6 +230,9 @@ class TurnedScale(Scale):
 
     def times_at(self, count):
         return self.inner.times_at(count)
+
+    def power_at(self, place, count):
+        return self.inner.power_at(place, count)
 
 
 def binary_names(length):

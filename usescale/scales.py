@@ -1,6 +1,6 @@
 """The base class of all scales, and the scales that are given as tables."""
 
-from usescale.counts import item_of_run
+from usescale.counts import Tail, item_of_run
 from usescale.errors import BadScale, EndlessScale, UnknownGrade
 
 MOST_DEPTH = 20
@@ -78,12 +78,33 @@ class Scale:
         """The place of the sum of as many ones as count says, added from the left."""
         if count == 0:
             return self.zero_at
+        trail, back = self.ones()
+        return item_of_run(trail, back, count - 1)
+
+    def ones(self):
+        """The sums of 1, 2, .. ones up to the last new one, and the position of the one that comes then."""
         trail = [self.one_at]
         following = self.sum_at(self.one_at, self.one_at)
         while following not in trail:
             trail.append(following)
             following = self.sum_at(following, self.one_at)
-        return item_of_run(trail, trail.index(following), count - 1)
+        return trail, trail.index(following)
+
+    def power_at(self, place, count):
+        """The place of one times as many times a grade as count says, multiplied from the left."""
+        trail = [self.one_at]
+        following = self.product_at(self.one_at, place)
+        while following not in trail:
+            trail.append(following)
+            following = self.product_at(following, place)
+        return item_of_run(trail, trail.index(following), count)
+
+    def tails_at(self, place):
+        """Tails whose common counts, from the greatest of their starts on, are those that fit a grade."""
+        trail, back = self.ones()
+        period = len(trail) - back
+        rests = [(at + 1) % period for at in range(back, len(trail)) if self.within_at(trail[at], place)]
+        return [Tail(back + 1, period, rests, 0, None)]
 
     def turns_at(self, start, extra, factor):
         """The place of the least grade from start on that takes in extra and factor times itself, or None."""
