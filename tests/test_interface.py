@@ -7,6 +7,7 @@ import unittest
 from usescale.errors import UsescaleError
 from usescale.grades import Grade
 from usescale.scales import Scale
+from usescale.usages import Usage
 
 SCALE_METHODS = {
     "places": "(self)", "sum_at": "(self, first, second)", "product_at": "(self, first, second)",
@@ -40,11 +41,36 @@ CLASSES = {
             "one": "(scale)", "idle": None,
         },
     },
+    "usescale.usages": {
+        "Usage": {
+            "__init__": "(self, scale)", "__getitem__": "(self, at)", "__setitem__": "(self, at, worth)",
+            "__contains__": "(self, x)", "__len__": "(self)", "__str__": "(self)", "__add__": "(self, other)",
+            "__iadd__": "(self, other)", "__or__": "(self, other)", "__le__": "(self, other)",
+            "__eq__": "(self, other)", "__rmul__": "(self, other)", "names": "(self)", "without": "(self, *names)",
+            "copy": "(self)", "one_of": "(scale, name)", "total": "(scale, *usages)",
+        },
+    },
+    "usescale.derivations": {
+        "Derivation": {"__init__": "(self, term, usage, kind, parts, *, grade='', turns=None)"},
+    },
 }
 
 FUNCTIONS = {
     "usescale.faults": {"first_fault": "(scale)"},
     "usescale.labels": {"read_scale": "(text)"},
+    "usescale.kinds": {"fits": "(scale, found, wanted)"},
+    "usescale.terms": {
+        "free_names": "(term)", "term_size": "(term)", "term_depth": "(term)", "alike": "(first, second)",
+        "substitute": "(term, images)",
+    },
+    "usescale.reader": {"read_kind": "(text)", "read_term": "(text)", "read_program": "(text)"},
+    "usescale.writer": {"write_kind": "(kind)", "write_term": "(term)", "write_program": "(inputs, term)"},
+    "usescale.derivations": {"filled": "(derivation)", "accepts": "(scale, derivation, context=None)"},
+    "usescale.checker": {
+        "check": "(scale, term, context=None)", "check_program": "(scale, inputs, term)",
+        "check_under": "(scale, inputs, term, under)",
+    },
+    "usescale.plain": {"run_plain": "(term, values, limit=2000)"},
 }
 
 
@@ -79,6 +105,8 @@ class InterfaceTest(unittest.TestCase):
         for name in ("named", "zero", "one"):
             self.assertIsInstance(vars(Grade)[name], classmethod)
         self.assertIsInstance(vars(Grade)["idle"], property)
+        self.assertIsInstance(vars(Usage)["one_of"], classmethod)
+        self.assertIsInstance(vars(Usage)["total"], staticmethod)
 
     def test_errors_stand_in_their_file(self):
         for found in UsescaleError.__subclasses__():

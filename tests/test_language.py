@@ -18,8 +18,8 @@ setdefault split splitlines startswith strip update upper values zfill bit_lengt
 LIBRARY = {"math": {"gcd", "lcm", "isqrt", "comb"}}
 
 # The rules allow some of these under conditions. The package does without them, so no condition needs a look.
-BARRED_NODES = (ast.Global, ast.AsyncFunctionDef, ast.Await, ast.Div, ast.AugAssign, ast.GeneratorExp, ast.Try,
-                ast.Match, ast.With, ast.Set, ast.SetComp, ast.NamedExpr, ast.Yield, ast.YieldFrom)
+BARRED_NODES = (ast.Global, ast.AsyncFunctionDef, ast.Await, ast.Div, ast.AugAssign, ast.GeneratorExp, ast.Match,
+                ast.With, ast.Set, ast.SetComp, ast.NamedExpr, ast.Yield, ast.YieldFrom)
 
 BARRED_NAMES = set("""register mro elements open input law version_info type id compile eval exec exit dir vars globals
 locals help copyright credits license quit gc os sys builtins breakpoint delattr""".split())
@@ -102,6 +102,43 @@ class LanguageTest(unittest.TestCase):
                 if isinstance(node, ast.BinOp) and isinstance(node.op, ast.Pow):
                     self.assertIsInstance(node.right, ast.Constant, where)
                     self.assertLessEqual(node.right.value, 64, where)
+
+    def test_only_own_errors_are_caught_around_one_call_of_an_own_function(self):
+        errors = {node.name for node in ast.parse((PACKAGE / "errors.py").read_text()).body[1:]}
+        for path, tree in trees():
+            own = {node.name for node in tree.body if isinstance(node, ast.FunctionDef)}
+            for node in ast.walk(tree):
+                if not isinstance(node, ast.Try):
+                    continue
+                self.assertEqual((node.finalbody, len(node.body), len(node.handlers)), ([], 1, 1), path)
+                self.assertIn(node.body[0].value.func.id, own)
+                handler = node.handlers[0]
+                caught = handler.type.elts if isinstance(handler.type, ast.Tuple) else [handler.type]
+                self.assertLessEqual({name.id for name in caught}, errors, path)
+
+    def test_no_table_of_a_module_is_passed_on(self):
+        for path, tree in trees():
+            tables = {node.targets[0].id for node in tree.body
+                      if isinstance(node, ast.Assign) and isinstance(node.value, (ast.Dict, ast.List))}
+            tables |= {alias.name for node in tree.body if isinstance(node, ast.ImportFrom) for alias in node.names
+                       if isinstance(self.values_of(node.module).get(alias.name), (ast.Dict, ast.List))}
+            read = set()
+            for node in ast.walk(tree):
+                if isinstance(node, (ast.Subscript, ast.Attribute)):
+                    read.add(id(node.value))
+                if isinstance(node, ast.Compare):
+                    read |= {id(right) for right in node.comparators}
+                if isinstance(node, (ast.For, ast.comprehension)):
+                    read.add(id(node.iter))
+            for node in ast.walk(tree):
+                if isinstance(node, ast.Name) and node.id in tables and isinstance(node.ctx, ast.Load):
+                    self.assertIn(id(node), read, (path, node.lineno))
+
+    def values_of(self, module):
+        """What the module-level names of a file of the package are assigned."""
+        path = PACKAGE / f"{module.split('.')[-1]}.py"
+        body = ast.parse(path.read_text()).body if module.startswith("usescale.") else []
+        return {node.targets[0].id: node.value for node in body if isinstance(node, ast.Assign)}
 
     def test_names(self):
         for path, tree in trees():
