@@ -80,7 +80,8 @@ class ReaderTest(unittest.TestCase):
             self.fails_at("t", f"(add 1 {text})", 7)
 
     def test_names(self):
-        for name in ("a", "z", "x1", "abcdefghijkl", "a0123456789b", "name", "term", "grade", "many", "open"):
+        for name in ("a", "z", "x1", "abcdefghijkl", "mnopqrstuvwx", "yz0123456789", "a0123456789b", "name", "term",
+                     "grade", "many", "open"):
             self.assertEqual(read_term(name), ("name", name))
             self.assertEqual(read_term(f"(unbox {name} 1 2)")[1], name)
             self.assertEqual(read_program(f"(program (inputs ({name} 1)) 2)")[0], [(name, "1")])
