@@ -117,6 +117,17 @@ def one_of_each():
     }
 
 
+def text_of_each():
+    """The written forms of the terms of each form, by their words."""
+    return {
+        "int": "-3", "name": "a", "add": "(add a b)", "sub": "(sub a b)", "mul": "(mul a b)",
+        "fn": "(fn x 1 int a)", "call": "(call a b)", "pair": "(pair a b)", "split": "(split x y a b)",
+        "left": "(left int a)", "right": "(right int a)", "case": "(case a x b y c)", "box": "(box 1 a)",
+        "unbox": "(unbox x a b)", "test": "(test a b c)", "repeat": "(repeat a x 1 b c)", "as": "(as int a)",
+        "gone": "(gone (pair int int))",
+    }
+
+
 def each_step():
     """For each part of each form a function that puts a term there; the other parts are of size 1."""
     b, kind = ("name", "b"), ("fun", "1", INT, INT)

@@ -1,7 +1,7 @@
 import random
 import unittest
 
-from nameless import INT, KINDS, one_of_each, wild_terms
+from nameless import INT, KINDS, one_of_each, text_of_each, wild_terms
 from plain_read import WORDS, plain_failure, plain_tokens
 from usescale.errors import BadText
 from usescale.reader import read_kind, read_program, read_term
@@ -53,11 +53,7 @@ class ReaderTest(unittest.TestCase):
             self.assertEqual(read_kind(text), kind)
 
     def test_every_form_of_term(self):
-        texts = {"int": "-3", "name": "a", "add": "(add a b)", "sub": "(sub a b)", "mul": "(mul a b)",
-                 "fn": "(fn x 1 int a)", "call": "(call a b)", "pair": "(pair a b)", "split": "(split x y a b)",
-                 "left": "(left int a)", "right": "(right int a)", "case": "(case a x b y c)", "box": "(box 1 a)",
-                 "unbox": "(unbox x a b)", "test": "(test a b c)", "repeat": "(repeat a x 1 b c)",
-                 "as": "(as int a)", "gone": "(gone (pair int int))"}
+        texts = text_of_each()
         for word, term in one_of_each().items():
             self.assertEqual(read_term(texts[word]), term)
         self.assertEqual(read_term("(fn x ? int x)"), ("fn", "x", "?", INT, ("name", "x")))

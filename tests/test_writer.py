@@ -1,6 +1,6 @@
 import unittest
 
-from nameless import INT, deep_term, one_of_each, wild_terms
+from nameless import INT, deep_term, one_of_each, text_of_each, wild_terms
 from plain_read import plain_failure
 from usescale.reader import read_program, read_term
 from usescale.writer import write_kind, write_program, write_term
@@ -17,11 +17,7 @@ class WriterTest(unittest.TestCase):
             self.assertEqual(write_kind(kind), text)
 
     def test_every_form_of_term(self):
-        texts = {"int": "-3", "name": "a", "add": "(add a b)", "sub": "(sub a b)", "mul": "(mul a b)",
-                 "fn": "(fn x 1 int a)", "call": "(call a b)", "pair": "(pair a b)", "split": "(split x y a b)",
-                 "left": "(left int a)", "right": "(right int a)", "case": "(case a x b y c)", "box": "(box 1 a)",
-                 "unbox": "(unbox x a b)", "test": "(test a b c)", "repeat": "(repeat a x 1 b c)",
-                 "as": "(as int a)", "gone": "(gone (pair int int))"}
+        texts = text_of_each()
         for word, term in one_of_each().items():
             self.assertEqual(write_term(term), texts[word])
 
