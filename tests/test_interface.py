@@ -6,6 +6,8 @@ import unittest
 
 from usescale.errors import UsescaleError
 from usescale.grades import Grade
+from usescale.machine import Machine
+from usescale.maps import ScaleMap
 from usescale.scales import Scale
 from usescale.usages import Usage
 
@@ -53,6 +55,21 @@ CLASSES = {
     "usescale.derivations": {
         "Derivation": {"__init__": "(self, term, usage, kind, parts, *, grade='', turns=None)"},
     },
+    "usescale.machine": {
+        "Machine": {
+            "__init__": "(self, scale, inputs, derivation, values)", "step": "(self)", "back": "(self)",
+            "finish": "(self, limit=2000)", "looks": "(self, cell)", "grade_of": "(self, cell)", "demands": "(self)",
+            "freed": "(self, cell)", "__len__": "(self)", "done": None, "answer": None,
+        },
+    },
+    "usescale.maps": {
+        "ScaleMap": {
+            "__init__": "(self, source, target, images)", "image": "(self, name)", "__call__": "(self, grade)",
+            "fault": "(self)", "__mul__": "(self, other)", "__eq__": "(self, other)", "same": "(scale)",
+        },
+        "CountMap": {"__init__": "(self, target)", "image": "(self, name)", "__call__": "(self, grade)"},
+        "HalfMap": {"__init__": "(self, source, side)", "image": "(self, name)", "__call__": "(self, grade)"},
+    },
 }
 
 FUNCTIONS = {
@@ -71,6 +88,12 @@ FUNCTIONS = {
         "check_under": "(scale, inputs, term, under)",
     },
     "usescale.plain": {"run_plain": "(term, values, limit=2000)"},
+    "usescale.erasing": {"erase": "(scale, derivation)"},
+    "usescale.rewriting": {"redexes": "(term)", "rewrite": "(term, place)", "rewrite_all": "(term, limit=200)"},
+    "usescale.maps": {
+        "regular_maps": "(source, target)", "carry_kind": "(m, kind)", "carry_term": "(m, term)",
+        "carry_usage": "(m, usage)",
+    },
 }
 
 
@@ -107,6 +130,9 @@ class InterfaceTest(unittest.TestCase):
         self.assertIsInstance(vars(Grade)["idle"], property)
         self.assertIsInstance(vars(Usage)["one_of"], classmethod)
         self.assertIsInstance(vars(Usage)["total"], staticmethod)
+        self.assertIsInstance(vars(ScaleMap)["same"], classmethod)
+        for name in ("done", "answer"):
+            self.assertIsInstance(vars(Machine)[name], property)
 
     def test_errors_stand_in_their_file(self):
         for found in UsescaleError.__subclasses__():

@@ -108,13 +108,52 @@ class LanguageTest(unittest.TestCase):
         for path, tree in trees():
             own = {node.name for node in tree.body if isinstance(node, ast.FunctionDef)}
             for node in ast.walk(tree):
-                if not isinstance(node, ast.Try):
+                if not isinstance(node, ast.Try) or node.finalbody:
                     continue
-                self.assertEqual((node.finalbody, len(node.body), len(node.handlers)), ([], 1, 1), path)
+                self.assertEqual((len(node.body), len(node.handlers)), (1, 1), path)
                 self.assertIn(node.body[0].value.func.id, own)
                 handler = node.handlers[0]
                 caught = handler.type.elts if isinstance(handler.type, ast.Tuple) else [handler.type]
                 self.assertLessEqual({name.id for name in caught}, errors, path)
+
+    def test_what_is_done_finally(self):
+        """A finally holds tests for None and assignments of names and attributes, and no handler stands beside it."""
+        plain = (ast.Name, ast.Attribute, ast.Constant)
+        for path, tree in trees():
+            for node in ast.walk(tree):
+                if not isinstance(node, ast.Try) or not node.finalbody:
+                    continue
+                self.assertEqual(node.handlers, [], path)
+                for test in node.finalbody:
+                    self.assertIsInstance(test, ast.If)
+                    self.assertIsInstance(test.test, ast.Compare)
+                    self.assertIsInstance(test.test.ops[0], (ast.Is, ast.IsNot))
+                    for row in test.body + test.orelse:
+                        self.assertIsInstance(row, ast.Assign)
+                        for side in row.targets + [row.value]:
+                            for part in side.elts if isinstance(side, ast.Tuple) else [side]:
+                                self.assertIsInstance(part, plain)
+
+    def test_properties(self):
+        """The name of a property is no plain method's and no attribute's, whatever the class is."""
+        properties, others = set(), set()
+        for _, tree in trees():
+            for node in functions_of(tree):
+                decorators = {part.id for part in node.decorator_list if isinstance(part, ast.Name)}
+                (properties if "property" in decorators else others).add(node.name)
+            others |= {node.attr for node in ast.walk(tree)
+                       if isinstance(node, ast.Attribute) and isinstance(node.ctx, ast.Store)}
+        self.assertFalse(properties & others)
+
+    def test_what_compares_and_shows_assigns_nothing(self):
+        for path, tree in trees():
+            for node in functions_of(tree):
+                if node.name in ("__eq__", "__len__", "__str__", "__repr__"):
+                    stored = [part for part in ast.walk(node) if isinstance(getattr(part, "ctx", None), ast.Store)]
+                    loops = [part.id for part in stored if isinstance(part, ast.Name)]
+                    targets = [part.target.id for part in ast.walk(node) if isinstance(part, ast.comprehension)]
+                    self.assertEqual(loops, targets, (path, node.name))
+                    self.assertEqual(len(stored), len(loops), (path, node.name))
 
     def test_no_table_of_a_module_is_passed_on(self):
         for path, tree in trees():
@@ -148,6 +187,7 @@ class LanguageTest(unittest.TestCase):
                 local = {node.arg for node in ast.walk(holder) if isinstance(node, ast.arg)}
                 local |= {node.id for node in ast.walk(holder)
                           if isinstance(node, ast.Name) and isinstance(node.ctx, ast.Store)}
+                local |= {node.name for node in ast.walk(holder) if isinstance(node, ast.ExceptHandler) and node.name}
                 self.assertFalse(local & (bound | BUILTINS | BARRED_NAMES), (path, holder.name))
                 for node in [part for row in holder.body for part in ast.walk(row)]:
                     if isinstance(node, ast.Name) and isinstance(node.ctx, ast.Load):

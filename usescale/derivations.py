@@ -23,6 +23,11 @@ def filled(derivation):
     parts = []
     for part in derivation.parts:
         parts.append(filled(part))
+    return filled_outside(derivation, parts)
+
+
+def filled_outside(derivation, parts):
+    """The term of a derivation with other parts, where a gap outside them is replaced by its grade."""
     row = list(with_parts(derivation.term, parts))
     if has_gap(derivation.term):
         row[GAP_AT[row[0]]] = derivation.grade

@@ -40,6 +40,9 @@ BINDERS = {
     "repeat": ((), (), (2,)),
 }
 
+# What these forms give keeps the term and what is bound around it; nothing inside is evaluated.
+KEPT = ("fn", "pair", "left", "right", "box")
+
 # The position of the grade that may be a gap.
 GAP_AT = {"fn": 2, "repeat": 3}
 

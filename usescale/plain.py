@@ -1,10 +1,8 @@
 """Running terms by name, without a scale."""
 
 from usescale.errors import GoneReached, OutOfMoves
-from usescale.forms import term_parts
-
-# What these give keeps the term and its scope.
-KEPT = ("fn", "pair", "left", "right", "box")
+from usescale.forms import KEPT, term_parts
+from usescale.operations import operated
 
 
 class Scope:
@@ -129,12 +127,7 @@ def follow_operand(run, waited):
     if waited.first is None:
         run.waiting.append(Waiting(waited.closure, run.value))
         return Closure(second, waited.closure.scope)
-    if word == "add":
-        run.value = waited.first + run.value
-    elif word == "sub":
-        run.value = waited.first - run.value
-    else:
-        run.value = waited.first * run.value
+    run.value = operated(word, waited.first, run.value)
     return None
 
 

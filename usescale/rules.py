@@ -159,19 +159,25 @@ def turns_follow(scale, term, parts, grade, turns):
 
 def usage_by_rule(scale, term, parts, grade, turns):
     """The usage of a node whose grade has the name; turns is the usage of the turns of a repeat."""
-    word = term[0]
-    if word == "name":
+    if term[0] == "name":
         return Usage.one_of(scale, term[1])
-    if word == "call":
-        return parts[0].usage + Grade.named(scale, grade) * parts[1].usage
-    if word == "box":
+    if term[0] == "box":
         return Grade.named(scale, grade) * parts[0].usage
+    if not parts:
+        return Usage(scale)
+    return unbound_usage(term, parts, 0) + usage_behind(scale, term, parts, grade, turns)
+
+
+def usage_behind(scale, term, parts, grade, turns):
+    """What a node uses besides its first part: the usage of what waits while that part is evaluated."""
+    word = term[0]
+    if word == "call":
+        return Grade.named(scale, grade) * parts[1].usage
     if word in ("case", "test"):
-        return parts[0].usage + (unbound_usage(term, parts, 1) | unbound_usage(term, parts, 2))
+        return unbound_usage(term, parts, 1) | unbound_usage(term, parts, 2)
     if word == "repeat":
-        return parts[0].usage + turns
-    usages = [unbound_usage(term, parts, number) for number in range(len(parts))]
-    return Usage.total(scale, *usages)
+        return turns
+    return unbound_usage(term, parts, 1) if len(parts) == 2 else Usage(scale)
 
 
 def unbound_usage(term, parts, number):
