@@ -124,6 +124,8 @@ class UsageTest(unittest.TestCase):
 
     def test_other_scales(self):
         usage = Usage(MANY)
+        with self.assertRaises(MixedScales):
+            carry_usage(M, usage)
         usage["a"] = Grade.one(MANY)
         with self.assertRaises(MixedScales):
             carry_usage(M, usage)

@@ -105,7 +105,8 @@ class DemandTest(unittest.TestCase):
         self.demanded("(program (inputs (a 6)) (call (fn x 6 int (call (fn y 3 int (add y (add y y))) (add x x))) a))",
                       (3,), "start: 6", "call 1: 6 6", "call 2: 6 6 3", "look 2: 6 6 2", "look 1: 6 5 2",
                       "look 0: 5 5 2", "look 1: 5 4 2", "look 0: 4 4 2", "look 2: 4 4 1", "look 1: 4 3 1",
-                      "look 0: 3 3 1", "look 1: 3 2 1", "look 0: 2 2 1", "look 2: 2 2 0", "look 1: 2 1 0", "look 0: 1 1 0",
+                      "look 0: 3 3 1", "look 1: 3 2 1", "look 0: 2 2 1", "look 2: 2 2 0", "look 1: 2 1 0",
+                      "look 0: 1 1 0",
                       "look 1: 1 0 0", "look 0: 0 0 0")
 
     def test_products_have_the_demand_on_the_left(self):

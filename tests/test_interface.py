@@ -4,12 +4,14 @@ import importlib
 import inspect
 import unittest
 
+from usescale.codemachine import CodeMachine
 from usescale.errors import UsescaleError
 from usescale.grades import Grade
 from usescale.machine import Machine
 from usescale.maps import ScaleMap
 from usescale.scales import Scale
 from usescale.usages import Usage
+from usescale.workbook import Workbook
 
 SCALE_METHODS = {
     "places": "(self)", "sum_at": "(self, first, second)", "product_at": "(self, first, second)",
@@ -70,6 +72,22 @@ CLASSES = {
         "CountMap": {"__init__": "(self, target)", "image": "(self, name)", "__call__": "(self, grade)"},
         "HalfMap": {"__init__": "(self, source, side)", "image": "(self, name)", "__call__": "(self, grade)"},
     },
+    "usescale.codemachine": {
+        "CodeMachine": {
+            "__init__": "(self, scale, code, grades, values)", "step": "(self)", "finish": "(self, limit=2000)",
+            "looks": "(self, cell)", "grade_of": "(self, cell)", "freed": "(self, cell)", "__len__": "(self)",
+            "done": None, "answer": None,
+        },
+    },
+    "usescale.workbook": {
+        "Workbook": {
+            "__init__": "(self, scale, limit=2000)", "__getitem__": "(self, at)", "__setitem__": "(self, at, worth)",
+            "__contains__": "(self, x)", "__len__": "(self)", "__iadd__": "(self, other)", "names": "(self)",
+            "kind_of": "(self, name)", "term_of": "(self, name)", "drop": "(self, name)",
+            "run": "(self, text, *values)", "carry": "(self, m)", "attempt": "(self, action)",
+            "set_limit": "(self, bound)", "limit": None,
+        },
+    },
 }
 
 FUNCTIONS = {
@@ -94,6 +112,8 @@ FUNCTIONS = {
         "regular_maps": "(source, target)", "carry_kind": "(m, kind)", "carry_term": "(m, term)",
         "carry_usage": "(m, usage)",
     },
+    "usescale.compiling": {"compile_code": "(scale, inputs, derivation)"},
+    "usescale.codejudge": {"judge_code": "(scale, code)"},
 }
 
 
@@ -133,6 +153,8 @@ class InterfaceTest(unittest.TestCase):
         self.assertIsInstance(vars(ScaleMap)["same"], classmethod)
         for name in ("done", "answer"):
             self.assertIsInstance(vars(Machine)[name], property)
+            self.assertIsInstance(vars(CodeMachine)[name], property)
+        self.assertIsInstance(vars(Workbook)["limit"], property)
 
     def test_errors_stand_in_their_file(self):
         for found in UsescaleError.__subclasses__():

@@ -185,6 +185,9 @@ class JoinedTest(unittest.TestCase):
         for left, right in ((first, second), (first, first), (ScaleMap.same(TurnedScale(LEVELS)), turned)):
             with self.assertRaises(MixedScales):
                 left * right
+        for other in (3, None, CountMap(LEVELS), Grade.one(LEVELS)):
+            with self.assertRaises(TypeError):
+                first * other
 
     def test_same(self):
         for scale in family_scales() + made_scales():
