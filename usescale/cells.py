@@ -8,7 +8,13 @@ class Cell:
         self.grade = grade
         self.content = content
         self.looked = 0
+        self._asked_at = None
+        self._has_room = True
 
     def has_room(self):
         """Whether the cell may be looked at once more or oftener."""
-        return self.grade.room(self.looked)
+        # On large scales a grade tells its room slowly, so it is asked once for each number of looks.
+        if self._asked_at != self.looked:
+            self._asked_at = self.looked
+            self._has_room = self.grade.room(self.looked)
+        return self._has_room
