@@ -16,7 +16,7 @@ class Judge:
 
     def __init__(self, scale, code, block):
         self.scale = scale
-        self.code = code
+        self.code = list(code)
         self.block = block
         self.row = HEAD
         self.kinds = []

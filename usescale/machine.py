@@ -3,7 +3,7 @@
 from usescale.cells import Cell
 from usescale.errors import NotDone, OutOfMoves
 from usescale.grades import Grade
-from usescale.states import Closure, State, Turns, at_end, node_of, settled, uses_of
+from usescale.states import Closure, Scope, State, Turns, at_end, node_of, part_of, settled, uses_of
 
 
 class Made:
@@ -23,10 +23,10 @@ class Machine:
         self._cells = []
         self._made = []
         self._over = False
-        scope = {}
+        bound = {}
         for at, (name, grade) in enumerate(inputs):
-            scope[name] = self.new_cell(Grade.named(scale, grade), values[at])
-        self._state = State(Closure(node_of(scale, derivation), scope), None)
+            bound[name] = self.new_cell(Grade.named(scale, grade), values[at])
+        self._state = State(Closure(node_of(scale, derivation), Scope(bound)), None)
 
     def new_cell(self, grade, content):
         """Makes a cell; gives its number."""
@@ -136,22 +136,17 @@ def make_move(machine, now, waiting):
     if isinstance(now, Turns):
         return make_turn(machine, now, waiting)
     if isinstance(now, Closure) and now.node.word == "name":
-        cell = now.scope[now.node.term[1]]
+        cell = now.scope.cell_of(now.node.term[1])
         machine.go_to(machine.look_into(cell), waiting)
         return ("look", cell)
     make = MOVES[waiting.node.word]
     return make(machine, now, waiting)
 
 
-def content_of(value, number):
-    """The part with the number of what a value keeps."""
-    return Closure(value.node.parts[number], value.scope)
-
-
 def make_turn(machine, turns, waiting):
     """Makes a turn of a repetition."""
     if turns.many <= 0:
-        machine.go_to(turns.node.inside(1, turns.scope, []), waiting)
+        machine.go_to(part_of(turns, 1), waiting)
         return ("turn", turns.many)
     cell = machine.new_cell(turns.node.grade, Turns(turns.node, turns.scope, turns.many - 1))
     machine.go_to(turns.node.inside(2, turns.scope, [cell]), waiting)
@@ -160,22 +155,22 @@ def make_turn(machine, turns, waiting):
 
 def make_call(machine, function, waiting):
     """Goes on with the body of a function."""
-    cell = machine.new_cell(function.node.grade, content_of(waiting, 1))
+    cell = machine.new_cell(function.node.grade, part_of(waiting, 1))
     machine.go_to(function.node.inside(0, function.scope, [cell]), waiting.outer)
     return ("call", cell)
 
 
 def make_split(machine, pair, waiting):
     """Goes on with the body under the halves of a pair."""
-    first = machine.new_linear(content_of(pair, 0))
-    second = machine.new_linear(content_of(pair, 1))
+    first = machine.new_linear(part_of(pair, 0))
+    second = machine.new_linear(part_of(pair, 1))
     machine.go_to(waiting.node.inside(1, waiting.scope, [first, second]), waiting.outer)
     return ("split", first, second)
 
 
 def make_choice(machine, choice, waiting):
     """Goes on with the branch of the side of a choice."""
-    cell = machine.new_linear(content_of(choice, 0))
+    cell = machine.new_linear(part_of(choice, 0))
     number = 1 if choice.node.word == "left" else 2
     machine.go_to(waiting.node.inside(number, waiting.scope, [cell]), waiting.outer)
     return ("choose", cell)
@@ -183,7 +178,7 @@ def make_choice(machine, choice, waiting):
 
 def make_opening(machine, box, waiting):
     """Goes on with the body under the content of a box."""
-    cell = machine.new_cell(box.node.grade, content_of(box, 0))
+    cell = machine.new_cell(box.node.grade, part_of(box, 0))
     machine.go_to(waiting.node.inside(1, waiting.scope, [cell]), waiting.outer)
     return ("open", cell)
 
@@ -191,7 +186,7 @@ def make_opening(machine, box, waiting):
 def make_test(machine, number, waiting):
     """Goes on with one of two branches."""
     above = number > 0
-    machine.go_to(waiting.node.inside(1 if above else 2, waiting.scope, []), waiting.outer)
+    machine.go_to(part_of(waiting, 1 if above else 2), waiting.outer)
     return ("test", above)
 
 

@@ -23,14 +23,29 @@ class Node:
 
     def inside(self, number, scope, cells):
         """The part with the number in a scope, with the names that are bound in it bound to the cells."""
-        inner = dict(scope)
-        for name, cell in zip(bound_names(self.term, number), cells):
+        return Closure(self.parts[number], scope.with_cells(bound_names(self.term, number), cells))
+
+
+class Scope:
+    """The numbers of the cells that names are bound to."""
+
+    def __init__(self, bound):
+        self._bound = dict(bound)
+
+    def cell_of(self, name):
+        """The number of the cell that a name is bound to."""
+        return self._bound[name]
+
+    def with_cells(self, names, cells):
+        """The scope with these names bound to these cells."""
+        inner = dict(self._bound)
+        for name, cell in zip(names, cells):
             inner[name] = cell
-        return Closure(self.parts[number], inner)
+        return Scope(inner)
 
 
 class Closure:
-    """A node with its scope, which gives the number of a cell for each name."""
+    """A node with its scope."""
 
     def __init__(self, node, scope):
         self.node = node
@@ -87,7 +102,12 @@ def uses_of(thing):
     if isinstance(thing, int) or (isinstance(thing, Waiting) and thing.first is not None):
         return []
     used = thing.node.used if isinstance(thing, Closure) else thing.node.used_behind
-    return [(thing.scope[name], place) for name, place in used]
+    return [(thing.scope.cell_of(name), place) for name, place in used]
+
+
+def part_of(thing, number):
+    """The part with the number of what has a node and a scope, in this scope."""
+    return Closure(thing.node.parts[number], thing.scope)
 
 
 def settled(state):
@@ -117,10 +137,9 @@ def begun(closure, waiting):
         return None
     if node.word == "int":
         return State(node.term[1], waiting)
-    first = Closure(node.parts[0], closure.scope)
     if node.word == "as":
-        return State(first, waiting)
-    return State(first, Waiting(node, closure.scope, None, waiting))
+        return State(part_of(closure, 0), waiting)
+    return State(part_of(closure, 0), Waiting(node, closure.scope, None, waiting))
 
 
 def resumed(value, waiting):
@@ -133,7 +152,7 @@ def resumed(value, waiting):
     if node.word not in OPERATIONS:
         return None
     if waiting.first is None:
-        return State(Closure(node.parts[1], waiting.scope), Waiting(node, waiting.scope, value, waiting.outer))
+        return State(part_of(waiting, 1), Waiting(node, waiting.scope, value, waiting.outer))
     return State(operated(node.word, waiting.first, value), waiting.outer)
 
 
